@@ -1,0 +1,1 @@
+"""Markpause: a collector that works a few boxes at a time."""
